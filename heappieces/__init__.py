@@ -1,0 +1,1 @@
+"""Heaps told in pieces: programs on cells, their runs, what assertions say."""

@@ -1,0 +1,138 @@
+"""The calls on one object, and what they answer."""
+
+from heappieces.faults import TextFault
+from heappieces.programs import Program
+from heappieces.programtexts import program_form, read_program
+from heappieces.runs import MOST_STEPS, run_of
+from heappieces.stores import lost_addresses, store_answer, store_told
+
+LOAD = 0
+WRITTEN = 1
+INPUT = 2
+RUN = 3
+AFTER = 4
+TOUCHES = 5
+LOST = 6
+
+NOT_BYTES = -1
+TOO_LONG = -2
+NOT_OF_ITS_FORM = -4
+NO_STORE = -6
+NOT_SO_MANY_STEPS = -7
+
+LONGEST_TEXT = 4096
+
+
+class UnknownCall(ValueError):
+    pass
+
+
+class Heaps:
+
+    def __init__(self):
+        self.program = Program([], [])
+        self.store = None
+
+    def load(self, text):
+        refusal = text_refusal(text)
+        if refusal != []:
+            return refusal
+        try:
+            program = read_program(text)
+        except TextFault as fault:
+            return [1, fault.kind, fault.place]
+        self.program = program
+        self.store = None
+        return [0, len(program.names)]
+
+    def written(self):
+        return [0] + program_form(self.program)
+
+    def put_in(self, numbers):
+        store = store_told(numbers, self.program.names)
+        if store is None:
+            return [NOT_OF_ITS_FORM]
+        self.store = store
+        return [0]
+
+    def run(self):
+        return self.after(MOST_STEPS)
+
+    def after(self, most):
+        if self.store is None:
+            return [NO_STORE]
+        if most < 0 or most > MOST_STEPS:
+            return [NOT_SO_MANY_STEPS]
+        run = run_of(self.program, self.store, most)
+        return [0] + run.end() + [run.steps] + store_answer(run.store, self.program.names)
+
+    def touches(self):
+        if self.store is None:
+            return [NO_STORE]
+        run = run_of(self.program, self.store, MOST_STEPS)
+        return [0, len(run.touched) // 2] + run.touched
+
+    def lost(self):
+        if self.store is None:
+            return [NO_STORE]
+        lost = lost_addresses(self.store)
+        return [0, len(lost)] + lost
+
+
+class CallRow:
+
+    def __init__(self, numbers):
+        self.numbers = numbers
+        self.at = 0
+
+    def is_done(self):
+        return self.at == len(self.numbers)
+
+    def take(self):
+        number = self.numbers[self.at]
+        self.at += 1
+        return number
+
+    def take_list(self):
+        count = self.take()
+        taken = self.numbers[self.at:self.at + count]
+        self.at += count
+        return taken
+
+
+def text_refusal(text):
+    if not all([0 <= byte <= 255 for byte in text]):
+        return [NOT_BYTES]
+    if len(text) > LONGEST_TEXT:
+        return [TOO_LONG]
+    return []
+
+
+def answer_of(heaps, row):
+    call = row.take()
+    if call == LOAD:
+        return heaps.load(row.take_list())
+    if call == WRITTEN:
+        return heaps.written()
+    if call == INPUT:
+        return heaps.put_in(row.take_list())
+    if call == RUN:
+        return heaps.run()
+    if call == AFTER:
+        return heaps.after(row.take())
+    if call == TOUCHES:
+        return heaps.touches()
+    if call == LOST:
+        return heaps.lost()
+    raise UnknownCall("no such call")
+
+
+def answers(calls):
+    heaps = Heaps()
+    row = CallRow(calls)
+    given = []
+    while not row.is_done():
+        answer = answer_of(heaps, row)
+        given.append(len(answer))
+        given.extend(answer)
+    return given
