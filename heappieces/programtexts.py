@@ -1,9 +1,8 @@
 """Programs from their texts, and the one form of a program's text."""
 
-from heappieces.faults import ENDS_EARLY, TOO_MANY, TextFault
 from heappieces.programs import ASSIGN, ELSE, END, FIELDS, FREE, IF, NEW, READ, WHILE, WRITE, Line, Program
 from heappieces.reading import Reader
-from heappieces.tokens import read_tokens
+from heappieces.tokens import bytes_of, read_tokens
 
 MOST_NAMES = 6
 DEEPEST_LEVEL = 6
@@ -15,7 +14,7 @@ def read_program(text):
     lines = []
     # The numbers of the lines whose blocks are open: as many as the level here.
     opened = []
-    while opened != [] or reader.here().fault != ENDS_EARLY:
+    while opened != [] or not reader.is_at_end():
         read_line(reader, lines, opened)
     return Program(reader.names, lines)
 
@@ -24,8 +23,7 @@ def read_names(reader):
     reader.want(("vars",))
     sign = ","
     while sign == ",":
-        if len(reader.names) == MOST_NAMES:
-            raise TextFault(TOO_MANY, reader.here().place)
+        reader.want_room(reader.names, MOST_NAMES)
         reader.names.append(reader.want_new_name())
         sign = reader.want((",", ";"))
 
@@ -72,15 +70,12 @@ def read_assigned(reader, name):
 
 
 def open_block(reader, lines, opened):
-    if len(opened) == DEEPEST_LEVEL:
-        raise TextFault(TOO_MANY, reader.here().place)
+    reader.want_room(opened, DEEPEST_LEVEL)
     kind = reader.want((IF, WHILE))
-    first = reader.want_value()
-    sign = reader.want(("==", "!="))
-    second = reader.want_value()
+    condition = reader.want_condition()
     reader.want(("{",))
     opened.append(len(lines))
-    lines.append(Line(kind, first, sign, second))
+    lines.append(Line(kind, condition[0], condition[1], condition[2]))
 
 
 def close_block(reader, lines, opened):
@@ -123,7 +118,7 @@ def program_form(program):
         rows.append("  " * level + line_form(line))
         if line.kind in (IF, WHILE, ELSE):
             level += 1
-    return [ord(sign) for sign in "".join([row + "\n" for row in rows])]
+    return bytes_of("".join([row + "\n" for row in rows]))
 
 
 def line_form(line):

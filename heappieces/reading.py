@@ -1,6 +1,6 @@
 """What a text tells, read token by token; the first that can't be is raised as a fault."""
 
-from heappieces.faults import NAMED_TWICE, NOT_NAMED, TextFault
+from heappieces.faults import ENDS_EARLY, NAMED_TWICE, NOT_NAMED, TOO_MANY, TextFault
 from heappieces.tokens import SMALL_LETTERS
 
 NO_NAMES = (
@@ -52,6 +52,24 @@ class Reader:
         if self.sees("0"):
             return self.want(("0",))
         return self.want_known_name()
+
+    def want_condition(self):
+        first = self.want_value()
+        sign = self.want(("==", "!="))
+        return (first, sign, self.want_value())
+
+    # One more may be read where fewer than the most are taken; else whatever stands here is too many.
+    def want_room(self, taken, most):
+        if len(taken) == most:
+            raise TextFault(TOO_MANY, self.here().place)
+
+    def is_at_end(self):
+        return self.here().fault == ENDS_EARLY
+
+    def want_end(self):
+        token = self.here()
+        if not self.is_at_end():
+            raise TextFault(token.fault, token.place)
 
 
 def is_name(text):

@@ -52,13 +52,12 @@ class Run:
             self.at = self.lines[self.at].target
 
     def ask(self, line):
-        same = self.value(line.first) == self.value(line.second)
-        if same != (line.detail == "=="):
+        if not self.store.is_so(line.first, line.detail, line.second):
             self.at = line.target
 
     def change(self, line):
         if line.kind == ASSIGN:
-            self.store.numbers[line.first] = self.value(line.second)
+            self.store.numbers[line.first] = self.store.value(line.second)
         elif line.kind == READ:
             self.read_field(line)
         elif line.kind == WRITE:
@@ -69,20 +68,20 @@ class Run:
             self.free_cell(line)
 
     def read_field(self, line):
-        address = self.value(line.second)
+        address = self.store.value(line.second)
         if self.touch(TOUCH_READ, address):
             cell = self.store.cells[address]
             self.store.numbers[line.first] = cell[FIELDS.index(line.detail)]
 
     def write_field(self, line):
-        address = self.value(line.first)
+        address = self.store.value(line.first)
         if self.touch(TOUCH_WRITE, address):
             cell = list(self.store.cells[address])
-            cell[FIELDS.index(line.detail)] = self.value(line.second)
+            cell[FIELDS.index(line.detail)] = self.store.value(line.second)
             self.store.cells[address] = tuple(cell)
 
     def free_cell(self, line):
-        address = self.value(line.first)
+        address = self.store.value(line.first)
         if self.touch(TOUCH_FREE, address):
             self.store.cells.pop(address)
 
@@ -103,9 +102,6 @@ class Run:
             return True
         self.wrong = [GONE_WRONG, how + 1, address]
         return False
-
-    def value(self, told):
-        return 0 if told == "0" else self.store.numbers[told]
 
 
 def run_of(program, store, most):

@@ -11,9 +11,29 @@ class Store:
         self.numbers = numbers
         self.cells = cells
 
+    def value(self, told):
+        return 0 if told == "0" else self.numbers[told]
+
+    def is_so(self, first, sign, second):
+        return (self.value(first) == self.value(second)) == (sign == "==")
+
 
 def copy_of_store(store):
     return Store(dict(store.numbers), dict(store.cells))
+
+
+def is_same_store(store, other):
+    return store.numbers == other.numbers and store.cells == other.cells
+
+
+def with_cells(store, cells):
+    more = copy_of_store(store)
+    more.cells.update(cells)
+    return more
+
+
+def has_some_of(store, addresses):
+    return any([address in store.cells for address in addresses])
 
 
 def store_told(told, names):

@@ -46,6 +46,10 @@ def signs_of(text):
     return "".join([known.get(byte, UNKNOWN) for byte in text])
 
 
+def bytes_of(signs):
+    return [ord(sign) for sign in signs]
+
+
 def past_blanks(signs, at):
     while at < len(signs) and signs[at] in " \n#":
         if signs[at] == "#":

@@ -6,7 +6,10 @@ WRITTEN = [1]
 RUN = [3]
 TOUCHES = [5]
 LOST = [6]
+ON = [7]
 
+FULL = [number for address in range(1, 13) for number in (address, 0, 0)]
+FOR_EVER = "vars x; while x == x { }"
 TURN_ROUND = "vars x, y, t; while x != 0 { t = x.next; x.next = y; y = x; x = t; }"
 
 
@@ -28,6 +31,38 @@ def put_in(*numbers):
 
 def after(most):
     return [4, most]
+
+
+def beside(*cells):
+    return with_list(8, cells)
+
+
+def renamed(*row):
+    return with_list(9, row)
+
+
+def swapped(*pairs):
+    """The row that exchanges the two addresses of each pair, and leaves the others."""
+    row = list(range(1, 13))
+    for one, other in pairs:
+        row[one - 1], row[other - 1] = other, one
+    return row
+
+
+def of_assertion(call, text):
+    return with_list(call, bytes_of(text) if isinstance(text, str) else text)
+
+
+def holds(text):
+    return of_assertion(10, text)
+
+
+def formed(text):
+    return of_assertion(11, text)
+
+
+def left(text):
+    return of_assertion(12, text)
 
 
 def parted(given):

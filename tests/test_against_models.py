@@ -8,7 +8,7 @@ import random
 import re
 import unittest
 
-from tests.helper import LOST, RUN, TOUCHES, WRITTEN, after, ask, last, load, put_in
+from tests.helper import LOST, ON, RUN, TOUCHES, WRITTEN, after, ask, beside, last, load, put_in, renamed, swapped
 
 NO_NAMES = "vars new free if else while next data emp cell list tree any and".split()
 STEP_KINDS = ("set", "get", "put", "new", "free")
@@ -168,6 +168,33 @@ def lost_of(numbers, cells):
     return [address for address in sorted(cells) if address not in reached]
 
 
+# Two runs compared, each told by its end, its steps, its numbers and its cells.
+
+def told_run(walk):
+    return walk.end, walk.steps, walk.numbers, walk.cells
+
+
+def kept_by_run(statements, numbers, cells, more):
+    end, steps, then, heap = told_run(walked(statements, numbers, cells, 300))
+    if set(heap) & set(more):
+        return [0]
+    wanted = end, steps, then, {**heap, **{address: list(cell) for address, cell in more.items()}}
+    return [int(told_run(walked(statements, numbers, {**cells, **more}, 300)) == wanted)]
+
+
+def alike_for_row(statements, numbers, cells, row):
+    to = {number: number for number in range(100)}
+    to.update(zip(range(1, 13), row))
+
+    def turned(numbers, cells):
+        return ({name: to[number] for name, number in numbers.items()},
+                {to[address]: [to[number] for number in cell] for address, cell in cells.items()})
+
+    end, steps, then, heap = told_run(walked(statements, numbers, cells, 300))
+    wanted = end[:2] + [to[address] for address in end[2:]], steps, *turned(then, heap)
+    return [int(told_run(walked(statements, *turned(numbers, cells), 300)) == wanted)]
+
+
 # The first fault, by a table: in a state, by what stands there, the state behind it.
 
 E = ("name", "0")
@@ -254,6 +281,17 @@ def any_program(chance):
     return names, any_block(chance, names, 0, 6)
 
 
+def any_store(chance, names):
+    numbers = {name: chance.choice([0, 1, 2, 3, chance.randrange(100)]) for name in names}
+    cells = {address: (chance.randrange(14), chance.choice([0, 1, 2, 99]))
+             for address in sorted(chance.sample(range(1, 13), chance.choice([0, 2, 4, 8, 11, 12])))}
+    return numbers, cells
+
+
+def told_cells(cells):
+    return [number for address in sorted(cells) for number in (address, *cells[address])]
+
+
 def form_with_names(names, statements):
     return "vars " + ", ".join(names) + ";\n" + "".join(form_of(statements))
 
@@ -268,12 +306,10 @@ class Models(unittest.TestCase):
             text = untidy(chance, form)
             if len(text) > 4096:
                 continue
-            numbers = {name: chance.choice([0, 1, 2, 3, chance.randrange(100)]) for name in names}
-            cells = {address: (chance.randrange(14), chance.choice([0, 1, 2, 99]))
-                     for address in sorted(chance.sample(range(1, 13), chance.choice([0, 2, 4, 8, 11, 12])))}
-            told = [*numbers.values(), *[number for address in cells for number in (address, *cells[address])]]
+            numbers, cells = any_store(chance, names)
             most = chance.randrange(20)
-            got = ask(load(text), WRITTEN, put_in(*told), RUN, after(most), TOUCHES, LOST)
+            store = put_in(*numbers.values(), *told_cells(cells))
+            got = ask(load(text), WRITTEN, store, RUN, after(most), TOUCHES, LOST, ON, ON)
             self.assertEqual(got[0], [0, len(names)], text)
             self.assertEqual(bytes(got[1][1:]).decode(), form)
             whole, part = walked(statements, numbers, cells, 300), walked(statements, numbers, cells, most)
@@ -282,6 +318,27 @@ class Models(unittest.TestCase):
             self.assertEqual(got[5], [0, len(whole.touched) // 2, *whole.touched], form)
             lost = lost_of(numbers, cells)
             self.assertEqual(got[6], [0, len(lost), *lost])
+            self.assertEqual(got[7], got[3])
+            further = walked(statements, whole.numbers, whole.cells, 300)
+            self.assertEqual(got[8], [0, *further.end, further.steps, *further.store()], form)
+
+    def test_more_cells_and_other_addresses(self):
+        chance = random.Random(4)
+        found = []
+        for _ in range(3000):
+            names, statements = any_program(chance)
+            numbers, cells = any_store(chance, names)
+            free = [address for address in range(1, 13) if address not in cells]
+            more = {address: (chance.randrange(14), chance.randrange(100))
+                    for address in chance.sample(free, min(len(free), chance.choice([0, 1, 1, 2, 12])))}
+            row = chance.choice([chance.sample(range(1, 13), 12), swapped(chance.sample(range(1, 13), 2)),
+                                 swapped(chance.sample(range(1, 5), 2))])
+            text = form_with_names(names, statements)
+            got = ask(load(text), put_in(*numbers.values(), *told_cells(cells)), beside(*told_cells(more)), renamed(*row))
+            wanted = [kept_by_run(statements, numbers, cells, more), alike_for_row(statements, numbers, cells, row)]
+            self.assertEqual(got[2:], wanted, (text, numbers, cells, more, row))
+            found.append(str(wanted))
+        self.assertEqual(len(set(found)), 4)
 
     def test_first_faults(self):
         chance = random.Random(2)

@@ -2,10 +2,7 @@
 
 import unittest
 
-from tests.helper import RUN, TOUCHES, TURN_ROUND, WRITTEN, after, ask, last, load, put_in
-
-FULL = [number for address in range(1, 13) for number in (address, 0, 0)]
-FOR_EVER = "vars x; while x == x { }"
+from tests.helper import FOR_EVER, FULL, RUN, TOUCHES, TURN_ROUND, WRITTEN, after, ask, last, load, put_in
 
 
 def run(text, *numbers):
